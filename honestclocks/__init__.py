@@ -1,0 +1,1 @@
+"""Clocks that say how wrong they may be."""
