@@ -1,13 +1,14 @@
 """The calls on a world. Each is handed its numbers in a list, and gives back its answer as a list."""
 
-from honestclocks.knowing import time_by
+from honestclocks.knowing import forget, time_by
 from honestclocks.net import hand_over, send_ask
 from honestclocks.parts import Stamp, Waiting, World
+from honestclocks.showing import letters_shown, master_shown, node_shown, stamps_shown, time_shown
 from honestclocks.spans import Span
 
 DONE = 0
 NOT_FITTING = -1
-PAST_ALREADY = -2
+SO_ALREADY = -2
 HAS_STOPPED = -3
 TIME_UNKNOWN = -6
 NOT_YET_PAST = -7
@@ -126,7 +127,7 @@ def settle(world, handed):
     if not node.runs:
         return [HAS_STOPPED]
     if stamp.past is not None:
-        return [PAST_ALREADY]
+        return [SO_ALREADY]
     span = time_by(world, node)
     if span is None:
         return [TIME_UNKNOWN]
@@ -152,6 +153,68 @@ def keep(world, handed):
     return [hand_over(world, world.letters[handed[0]])]
 
 
+def lose(world, handed):
+    """A letter is thrown away."""
+    if not there(world.letters, handed[0]):
+        return [NOT_FITTING]
+    world.letters.pop(handed[0])
+    return [DONE]
+
+
+def stop(world, handed):
+    """A node stops. Its memory is gone only once it starts, so that it can be looked at till then."""
+    if not there(world.nodes, handed[0]):
+        return [NOT_FITTING]
+    node = world.nodes[handed[0]]
+    if not node.runs:
+        return [SO_ALREADY]
+    node.runs = False
+    return [DONE]
+
+
+def start(world, handed):
+    """A stopped node runs again, with nothing but what is on its disk."""
+    if not there(world.nodes, handed[0]):
+        return [NOT_FITTING]
+    node = world.nodes[handed[0]]
+    if node.runs:
+        return [SO_ALREADY]
+    node.runs = True
+    forget(node)
+    return [DONE]
+
+
+def show_letters(world, handed):
+    """Tell the letters that are on their way."""
+    return letters_shown(world)
+
+
+def show_time(world, handed):
+    """Tell the time by a node, be it stopped or not."""
+    if not there(world.nodes, handed[0]):
+        return [NOT_FITTING]
+    return time_shown(world, world.nodes[handed[0]])
+
+
+def show_node(world, handed):
+    """Tell all of a node."""
+    if not there(world.nodes, handed[0]):
+        return [NOT_FITTING]
+    return node_shown(world.nodes[handed[0]])
+
+
+def show_master(world, handed):
+    """Tell what a master says."""
+    if not there(world.masters, handed[0]):
+        return [NOT_FITTING]
+    return master_shown(world, world.masters[handed[0]])
+
+
+def show_stamps(world, handed):
+    """Tell the stamps that were given."""
+    return stamps_shown(world)
+
+
 BEGIN = 0
 
 # By the numbers that the calls have; begin isn't among them, since it needs no world.
@@ -164,6 +227,14 @@ ON_A_WORLD = {
     6: settle,
     7: take,
     8: keep,
+    9: lose,
+    10: stop,
+    11: start,
+    12: show_letters,
+    13: show_time,
+    14: show_node,
+    15: show_master,
+    16: show_stamps,
 }
 
 

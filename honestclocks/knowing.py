@@ -36,3 +36,9 @@ def learn(world, node, waiting, told):
         if both is not None:
             span = both
     node.known[waiting.master] = Known(node.clock, span)
+
+
+def forget(node):
+    """The node's memory is as at first: it knows nothing and waits for nothing."""
+    node.waiting = []
+    node.known = [None] * len(node.known)
