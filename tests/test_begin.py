@@ -18,6 +18,8 @@ class WithoutAWorld(unittest.TestCase):
 
     def test_calls_that_would_be_refused_answer_minus_nine_too(self):
         self.assertEqual(told(("skew", 9, 999), ("lie", 9, 2, 1), ("ask", 9, 9), ("settle", 200)), [[-9]] * 4)
+        self.assertEqual(told(("lose", 200), ("stop", 9), ("start", 9)), [[-9]] * 3)
+        self.assertEqual(told(("time", 9), ("node", 9), ("master", 9)), [[-9]] * 3)
 
     def test_a_refused_begin_leaves_no_world(self):
         self.assertEqual(told(("begin", 101, 0, 0, 1, 1), ("ask", 0, 0)), [[-1], [-9]])
